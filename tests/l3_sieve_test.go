@@ -900,28 +900,28 @@ func TestNilAndEmptyRestsAreTheSame(t *testing.T) {
 }
 
 // roomy is a list in front of spare room, and all of both.
-func roomy(list []string) (given, room []string) {
-	room = slices.Concat(list, []string{"spare", "room", "b", "a"})
+func roomy[T any](list []T, spare ...T) (given, room []T) {
+	room = slices.Concat(list, spare)
 	return room[:len(list)], room
 }
 
 // overwrite fills a list and its spare room.
-func overwrite(list []string) {
+func overwrite[T any](list []T, mine T) {
 	list = list[:cap(list)]
 	for i := range list {
-		list[i] = "mine"
+		list[i] = mine
 	}
 }
 
 func TestSieveFunctionsLeaveTheirListsAlone(t *testing.T) {
 	for _, keys := range append(sieveLists(), notKeyLists()...) {
 		for _, keep := range []int{-1, 0, 1, 5} {
-			given, room := roomy(keys)
+			given, room := roomy(keys, "spare", "room", "b", "a")
 			was := slices.Clone(room)
 			s, _ := impl.SieveOf(given, keep)
 			other, _ := impl.SieveOf(given, keep)
 			kept := copySieve(other)
-			overwrite(s.Rests)
+			overwrite(s.Rests, "mine")
 			if !slices.Equal(room, was) || !sameSieve(other, kept) {
 				t.Fatalf("SieveOf(%q, %d) changes or shares memory", begin(keys), keep)
 			}
@@ -934,7 +934,7 @@ func TestSieveFunctionsLeaveTheirFilterAlone(t *testing.T) {
 		for _, changed := range []bool{false, true} {
 			given := s
 			var room []string
-			given.Rests, room = roomy(s.Rests)
+			given.Rests, room = roomy(s.Rests, "spare", "room", "b", "a")
 			if changed && len(given.Rests) > 0 {
 				given.Rests[0] += "ddddd"
 			}
@@ -946,7 +946,7 @@ func TestSieveFunctionsLeaveTheirFilterAlone(t *testing.T) {
 			impl.SieveSize(given)
 			one, other := impl.SieveHeads(given), impl.SieveHeads(given)
 			kept := slices.Clone(other)
-			overwrite(one)
+			overwrite(one, "mine")
 			if !slices.Equal(room, was) || !slices.Equal(other, kept) {
 				t.Fatalf("a function of the filter of %q with %d changes or shares memory", keys, keep)
 			}
