@@ -1700,13 +1700,18 @@ func apart[T comparable](lists [][]T, mine func(i int) T) bool {
 	return true
 }
 
+// listsApart says whether no two lists of a store share memory. It overwrites them.
+func listsApart(s impl.Store) bool {
+	rests := make([][]string, len(s.Sieves))
+	for n, f := range s.Sieves {
+		rests[n] = f.Rests
+	}
+	return apart(runsOf(s), func(i int) impl.Entry { return put("mine", i, i) }) && apart(rests, func(i int) string { return strings.Repeat("mine", i) })
+}
+
 func TestTheListsOfOneStoreShareNoMemory(t *testing.T) {
 	check := func(what any, s impl.Store) {
-		rests := make([][]string, len(s.Sieves))
-		for n, f := range s.Sieves {
-			rests[n] = f.Rests
-		}
-		if !apart(runsOf(s), func(i int) impl.Entry { return put("mine", i, i) }) || !apart(rests, func(i int) string { return strings.Repeat("mine", i) }) {
+		if !listsApart(s) {
 			t.Fatalf("two lists of the result of %v share memory", what)
 		}
 	}
